@@ -1,8 +1,8 @@
-"""Loading a program from its sources."""
+"""Loading a program from its sources, from scratch or in place of another one."""
 
 from sameasnew.lines import parse_module
+from sameasnew.programs import Program
 from sameasnew.resolving import check_names, reach
-from sameasnew.running import Memory, run_body
 
 SOURCES_MOST = 8
 ENTRIES_MOST = 3
@@ -10,18 +10,22 @@ ENTRIES_MOST = 3
 
 def load(sources, entries):
     """A tuple "loaded", order, variables, kept, held, traces; or "fault" and the fault."""
+    kind, found = renew(Program({}), sources, entries)
+    return found.tell() if kind == "loaded" else (kind, found)
+
+
+def renew(before, sources, entries):
+    """A tuple "loaded" and the program of the sources, where that of before was loaded; or "fault" and the fault."""
     prepared = prepare(sources, entries)
     if prepared[0] == "fault":
         return prepared
     _, modules, order = prepared
-    memory = Memory()
-    traces = []
+    program = Program(modules)
     for module in order:
-        kind, found = run_body(modules, module, memory)
-        if kind == "fault":
-            return ("fault", ("run", module, found))
-        traces.append((module, found))
-    return ("loaded", order, tuple(memory.variables()), initial(traces), tuple(memory.held()), tuple(traces))
+        words = program.complete(module, before)
+        if words is not None:
+            return ("fault", ("run", module, words))
+    return ("loaded", program)
 
 
 def prepare(sources, entries):
@@ -42,8 +46,3 @@ def prepare(sources, entries):
         return ("fault", ("line", found, faulty[found]) if found in faulty else ("module", found))
     fault = check_names(modules, found)
     return ("ready", modules, found) if fault is None else ("fault", fault)
-
-
-def initial(traces):
-    """The kept variables with their initial values, in the order of modules, line by line."""
-    return tuple([(module, *event[1:]) for module, trace in traces for event in trace if event[0] == "keep"])

@@ -41,7 +41,7 @@ class Memory:
 
 
 class Stopped(ModuleError):
-    """What is run has a fault; the field words tells which one. run_body catches it."""
+    """What is run has a fault; the field words tells which one. run_body and run_call catch it."""
 
     def __init__(self, words):
         super().__init__(f"stopped, because of {words[0]}")
@@ -150,7 +150,10 @@ class Runner:
     def call(self, tree, scope):
         """The value of a call."""
         binding = self.lead(tree[1], scope)
-        values = [self.evaluate(part, scope) for part in tree[2]]
+        return self.enter(binding, [self.evaluate(part, scope) for part in tree[2]])
+
+    def enter(self, binding, values):
+        """The value of the function of the binding for these arguments."""
         if self.calls == CALLS_MOST:
             raise Stopped(("deep",))
         line = declaration(self.modules, binding)
@@ -159,6 +162,30 @@ class Runner:
         value = self.evaluate(line[3], (binding[0], dict(zip(line[2], values))))
         self.calls -= 1
         return value
+
+
+class OutsideRunner(Runner):
+    """Runs a call from outside, in which only kept variables are set; it has kept variables of its own."""
+
+    def __init__(self, modules, memory, kept):
+        Runner.__init__(self, modules, memory)
+        self.kept = {binding: kept[binding] for binding in kept}
+
+    def present(self, binding):
+        """The value that a variable has; there is one, for the bodies of all modules were run."""
+        return self.kept[binding] if binding in self.kept else self.memory.value(binding)
+
+    def assign(self, word, binding, value):
+        """Gives a variable its value, which must be a kept one."""
+        if binding not in self.kept:
+            raise Stopped(("plain", *binding))
+        self.kept[binding] = value
+
+    def result(self, binding, values):
+        """The value of the function of the binding for these arguments, or of the variable of the binding."""
+        if declaration(self.modules, binding)[0] == "fn":
+            return self.enter(binding, values)
+        return self.present(binding)
 
 
 def combine(sign, left, right):
@@ -195,6 +222,19 @@ def run_body(modules, module, memory):
     except Stopped as stop:
         return ("fault", stop.words)
     return ("done", tuple(runner.trace))
+
+
+def run_call(modules, memory, kept, binding, values):
+    """A tuple "done", the result of a call from outside, and the kept variables then; or "fault" and the words of it.
+
+    The kept variables are a dict of values by bindings; neither it nor the memory changes.
+    """
+    runner = OutsideRunner(modules, memory, kept)
+    try:
+        value = runner.result(binding, values)
+    except Stopped as stop:
+        return ("fault", stop.words)
+    return ("done", value, runner.kept)
 
 
 def trace_holds(modules, module, memory, trace):

@@ -11,10 +11,8 @@ LETTERS = "abcdefghijklmnopqrstuvwxyz"
 DIGITS = "0123456789"
 SIGNS = "(),;+-*<="
 
-# Codes, because a percent sign may not stand in a string of this package.
-FIRST_CODE = 32
-LAST_CODE = 126
-PERCENT_CODE = 37
+# From the space to ~, rising; no string contains the percent sign.
+CHARACTERS = " !\"#$&'()*+,-./0123456789:;<=>?@ABCDEFGHIJKLMNOPQRSTUVWXYZ[\\]^_`abcdefghijklmnopqrstuvwxyz{|}~"
 
 
 def is_name(text):
@@ -32,13 +30,7 @@ def is_value(value):
         return -NUMBER_MOST <= value <= NUMBER_MOST
     if not isinstance(value, str) or len(value) > STRING_MOST:
         return False
-    return all(may_stand_in_string(character) for character in value)
-
-
-def may_stand_in_string(character):
-    """Whether the character may be one of a string value."""
-    code = ord(character)
-    return FIRST_CODE <= code <= LAST_CODE and code != PERCENT_CODE and character not in ('"', "|")
+    return all(character in CHARACTERS and character not in ('"', "|") for character in value)
 
 
 def split(line):

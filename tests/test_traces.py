@@ -1,6 +1,6 @@
 import unittest
 
-from reading import filled, modules_of, state, text_of
+from reading import Numbers, filled, modules_of, state, text_of
 
 from sameasnew.lines import body, parse_module
 from sameasnew.loading import load
@@ -381,17 +381,6 @@ FS = ("fn f(p) = p + 1", "fn f(p) = p * 2", "fn f(p) = p + x", "fn f(p) = set x 
 BODIES = ("", "do f(2)", "do set x = x + 1", "hold \"s\"", "hold if x = 2 then \"s\" else \"t\"", "keep k = f(x)",
           "let y = f(x) + x",
           "let z = (f(1); x)\ndo if z < 3 then set x = 1 else f(1)")
-
-
-class Numbers:
-    """A row of numbers without a rule that is easily seen, always the same."""
-
-    def __init__(self):
-        self.last = 1
-
-    def below(self, many):
-        self.last = (self.last * 1103515245 + 12345) % 2 ** 31
-        return self.last // 65536 % many
 
 
 def some_text(numbers, others):
