@@ -42,3 +42,12 @@ def check_arguments(values):
     """The values must be arguments."""
     if not are_arguments(values):
         raise OutOfRange("arguments")
+
+
+def check_call(module, name, arguments):
+    """The parts of a call that a holder makes must be two names and arguments."""
+    if not is_name(module):
+        raise OutOfRange("module")
+    if not is_name(name):
+        raise OutOfRange("name")
+    check_arguments(arguments)

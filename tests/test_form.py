@@ -14,6 +14,8 @@ BUILTINS = set("""len range enumerate zip min max sum abs sorted reversed int st
     Exception ValueError TypeError KeyError IndexError LookupError ZeroDivisionError ArithmeticError OverflowError
     RuntimeError NotImplementedError AttributeError StopIteration NotImplemented""".split())
 
+BARRED = set("register mro elements open input law format args keys values sort".split())
+
 
 def docstrings(tree):
     found = []
@@ -67,6 +69,36 @@ class Form(unittest.TestCase):
                     self.assertNotIsInstance(node.value, (float, complex))
                     self.assertFalse(isinstance(node.value, str) and "%" in node.value, node.value)
                 self.assertNotIsInstance(node, ast.Div)
+
+    def test_methods_and_attributes_have_different_names(self):
+        methods, attributes = set(), set()
+        for tree in self.each_tree():
+            for node in ast.walk(tree):
+                if isinstance(node, ast.ClassDef):
+                    methods |= {part.name for part in node.body if isinstance(part, ast.FunctionDef)}
+                if isinstance(node, ast.Attribute) and isinstance(node.ctx, ast.Store):
+                    attributes.add(node.attr)
+        self.assertEqual(sorted(methods & attributes), [])
+        self.assertEqual(sorted((methods | attributes) & BARRED), [])
+
+    def test_no_name_hides_another_one(self):
+        for tree in self.each_tree():
+            outer = {node.name for node in tree.body if isinstance(node, (ast.FunctionDef, ast.ClassDef))}
+            outer |= {part.name for node in tree.body if isinstance(node, ast.ImportFrom) for part in node.names}
+            for node in ast.walk(tree):
+                if isinstance(node, ast.arg):
+                    self.assertNotIn(node.arg, outer | set(dir(builtins)))
+                if isinstance(node, ast.Name) and isinstance(node.ctx, ast.Store):
+                    self.assertNotIn(node.id, outer)
+
+    def test_no_files_import_from_each_other(self):
+        imported = {path.stem: [node.module.partition(".")[2] for node in ast.parse(path.read_text()).body
+                                if isinstance(node, ast.ImportFrom)] for path in FILES}
+        while imported:
+            free = [name for name in imported if not set(imported[name]) & set(imported)]
+            self.assertNotEqual(free, [])
+            for name in free:
+                del imported[name]
 
     def test_builtins(self):
         for tree in self.each_tree():
